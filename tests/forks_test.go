@@ -364,23 +364,54 @@ func mixedForks(random *rand.Rand, many int) []impl.Fork {
 	return list
 }
 
-// The further proof is tried at the end, and at every other place.
+// furtherForks returns proofs to be added to a list: those of the list once more, in both orders of their heads, and others.
+func furtherForks(random *rand.Rand, list []impl.Fork) []impl.Fork {
+	forks := mixedForks(random, 5)
+	for _, x := range list {
+		forks = append(forks, x, turned(x))
+	}
+	return forks
+}
+
+// checkKept fails the test if one proof more removes a public key or adds more than one.
+func checkKept(t *testing.T, before []int, list []impl.Fork) []int {
+	t.Helper()
+	after := impl.ForkNamed(list)
+	for _, public := range before {
+		if !slices.Contains(after, public) {
+			t.Fatalf("%d is named without one of the proofs %#v, but not with all of them", public, list)
+		}
+	}
+	if len(after) > len(before)+1 {
+		t.Fatalf("%#v becomes %#v by one of the proofs %#v", before, after, list)
+	}
+	return after
+}
+
+// The further proof is tried at each place, from before the first proof to behind the last one.
 func TestPromise66FurtherProofKeepsThePreviousOnes(t *testing.T) {
 	random := rand.New(rand.NewSource(18))
-	for range 50 {
-		list := mixedForks(random, 20)
-		further := mixedForks(random, 1)[0]
-		for n := range list {
-			before, after := impl.ForkNamed(list[:n]), impl.ForkNamed(list[:n+1])
-			inserted := impl.ForkNamed(slices.Insert(slices.Clone(list), n, further))
-			for _, public := range before {
-				if !slices.Contains(after, public) || !slices.Contains(inserted, public) {
-					t.Fatalf("%d is named by %#v, but not with a further proof", public, list[:n])
-				}
-			}
-			if len(after) > len(before)+1 {
-				t.Fatalf("%#v becomes %#v by one proof", before, after)
+	for _, many := range []int{0, 1, 1, 1, 2, 2, 2, 3, 3, 3, 4, 5, 6, 7, 8, 9, 10, 20, 30, 40} {
+		list := mixedForks(random, many)
+		before := impl.ForkNamed(list)
+		for _, further := range furtherForks(random, list) {
+			for place := range many + 1 {
+				checkKept(t, before, slices.Insert(slices.Clone(list), place, further))
 			}
 		}
+	}
+}
+
+// The proofs of all writers come one by one, each at a random place, until all writers are named.
+func TestPromise66WritersAreNamedOneByOne(t *testing.T) {
+	random := rand.New(rand.NewSource(24))
+	list, named := []impl.Fork{}, []int{}
+	for _, number := range random.Perm(impl.Keys - 1) {
+		further := forkOf(number+1, number%(impl.MaxBlocks+1), number%impl.Digests, (number+1)%impl.Digests)
+		list = slices.Insert(list, random.Intn(len(list)+1), further)
+		named = checkKept(t, named, list)
+	}
+	if len(named) != impl.Keys-1 {
+		t.Errorf("only %d writers are named", len(named))
 	}
 }
